@@ -1,0 +1,1 @@
+"""Heirs: who takes of an estate, and how much, in exact fractions."""
