@@ -16,6 +16,9 @@ class Person:
     def has_died(self):
         return self.day_of_death is not None
 
+    def has_died_by(self, day):
+        return self.has_died() and self.day_of_death <= day
+
     def is_married(self):
         # A widowed one is married still: only parting ends a marriage, and after a death nobody may part.
         return self.spouse != NOBODY
@@ -35,6 +38,22 @@ class Family:
     def numbered(self, number):
         # Persons are numbered from 1, and 0 is nobody.
         return self.persons[number - 1]
+
+    def all_numbers(self):
+        return list(range(1, len(self.persons) + 1))
+
+    def children_of(self, number):
+        return [child for child in self.all_numbers() if number in self.numbered(child).parents]
+
+    def dead_by(self, day):
+        """Those who have died up to and with a day, in the order of days, then of persons."""
+        dead = [number for number in self.all_numbers() if self.numbered(number).has_died_by(day)]
+        return sorted(dead, key=lambda number: (self.numbered(number).day_of_death, number))
+
+    def may_take(self, number, dead):
+        if number == NOBODY or number == dead or (number, dead) in self.renounced:
+            return False
+        return not self.numbered(number).has_died_by(self.numbered(dead).day_of_death)
 
     def may_be_parents(self, one, other):
         if one == other:

@@ -1,8 +1,11 @@
 """The calls on one land, read from a list of whole numbers, and their answers."""
 
-from heirshares.family import Family
+from heirshares.estate import ends, kept, shared_by_law, shares
+from heirshares.family import LAST_DAY, NOBODY, Family
+from heirshares.kinship import nearest_ancestor
 from heirshares.law import Law, law_at_first, law_may_say
-from heirshares.replies import BAD_NUMBER, DONE
+from heirshares.replies import BAD_NUMBER, DONE, NO_ANCESTOR, NO_SUCH_PERSON, NOT_AS_THINGS_STAND
+from heirshares.wills import Gift, Wills
 
 
 class Land:
@@ -12,6 +15,7 @@ class Land:
     def begin(self):
         self.law = law_at_first()
         self.family = Family()
+        self.wills = Wills()
 
 
 def answer_begins(land, numbers):
@@ -52,6 +56,57 @@ def answer_renounce(land, numbers):
     return [land.family.renounce(numbers[0], numbers[1])]
 
 
+def answer_gift(land, numbers):
+    gift = Gift(numbers[0], numbers[1], numbers[2], (numbers[3], numbers[4]))
+    return [land.wills.add_gift(land.family, gift)]
+
+
+def told(amounts):
+    """How many there are, then of each the person and the share; what is nobody's comes last."""
+    answer = [len(amounts)]
+    for number in sorted(amounts, key=lambda each: (each == NOBODY, each)):
+        answer.append(number)
+        answer.extend(amounts[number])
+    return answer
+
+
+def answer_of_estate(land, dead, amounts_of):
+    if not land.family.knows(dead):
+        return [NO_SUCH_PERSON]
+    if not land.family.numbered(dead).has_died():
+        return [NOT_AS_THINGS_STAND]
+    return told(amounts_of(land, dead))
+
+
+def answer_by_law(land, numbers):
+    return answer_of_estate(land, numbers[0], shared_by_law)
+
+
+def answer_shares(land, numbers):
+    return answer_of_estate(land, numbers[0], shares)
+
+
+def answer_kept(land, numbers):
+    return answer_of_estate(land, numbers[0], kept)
+
+
+def answer_ends(land, numbers):
+    if not land.family.knows(numbers[0]):
+        return [NO_SUCH_PERSON]
+    if numbers[1] > LAST_DAY:
+        return [BAD_NUMBER]
+    return told(ends(land, numbers[0], numbers[1]))
+
+
+def answer_related(land, numbers):
+    if not land.family.knows(numbers[0]) or not land.family.knows(numbers[1]):
+        return [NO_SUCH_PERSON]
+    nearest = nearest_ancestor(land.family, numbers[0], numbers[1])
+    if nearest is None:
+        return [NO_ANCESTOR]
+    return [DONE] + list(nearest)
+
+
 CALLS = {
     0: answer_begins,
     1: answer_law,
@@ -60,6 +115,12 @@ CALLS = {
     4: answer_marry,
     5: answer_part,
     6: answer_renounce,
+    7: answer_gift,
+    8: answer_by_law,
+    9: answer_shares,
+    10: answer_kept,
+    11: answer_ends,
+    12: answer_related,
 }
 
 

@@ -1,7 +1,8 @@
 """What a land's law says."""
 
+from heirshares.parts import may_be_told
+
 CLASSES = 5
-GREATEST_BELOW = 100
 
 STEPS_IN_AT_FIRST = 1
 KEPT_PART_AT_FIRST = (1, 2)
@@ -21,13 +22,7 @@ def law_at_first():
     return Law(STEPS_IN_AT_FIRST, KEPT_PART_AT_FIRST, list(SPOUSE_PARTS_AT_FIRST))
 
 
-def is_part_of_all(fraction):
-    above = fraction[0]
-    below = fraction[1]
-    return 1 <= below <= GREATEST_BELOW and above <= below
-
-
 def law_may_say(kept_part, spouse_parts):
-    if len(spouse_parts) != CLASSES or not is_part_of_all(kept_part):
+    if len(spouse_parts) != CLASSES or not may_be_told(kept_part):
         return False
-    return all([is_part_of_all(fraction) for fraction in spouse_parts])
+    return all([may_be_told(fraction) for fraction in spouse_parts])

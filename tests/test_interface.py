@@ -4,13 +4,22 @@ import sys
 import unittest
 
 from heirshares.land import answers
-from told import GREATEST, begins, dies, first_numbers, law, line, marry, part, person, persons, renounce
+from told import GREATEST, begins, by_law, dies, ends, first_numbers, gift, kept, law, line, marry, part, person
+from told import persons, related, renounce, shares
 
 MIXED = line([
     person(), person(), person(1, 2), marry(1, 2), part(2), marry(2, 1), law(0, 1, 3), renounce(3, 1),
-    renounce(3, 1), dies(1, 7), dies(1, 8), part(2), marry(2, 3), person(9, 0), begins(), person(),
+    renounce(3, 1), dies(1, 7), dies(1, 8), part(2), marry(2, 3), person(9, 0), person(2, 0), gift(1, 4, 0, 1, 1),
+    gift(1, 4), by_law(1), shares(1), kept(1), kept(2), ends(1, 6), ends(1, 7), related(3, 4), related(1, 2),
+    begins(), person(), by_law(1),
 ])
-MIXED_ANSWERS = [1, 2, 3, 0, 0, 0, 0, 0, -3, 0, -4, -4, -4, -2, 0, 1]
+MIXED_ANSWERS = [
+    [1], [2], [3], [0], [0], [0], [0], [0],
+    [-3], [0], [-4], [-4], [-4], [-2], [4], [1],
+    [-6], [1, 2, 1, 1], [2, 2, 1, 3, 4, 2, 3], [1, 2, 1, 3], [-4], [1, 1, 1, 1], [2, 2, 1, 3, 4, 2, 3],
+    [0, 2, 1, 1], [-6],
+    [0], [1], [-4],
+]
 
 
 class FrozenList(list):
@@ -35,8 +44,34 @@ class InterfaceTest(unittest.TestCase):
         ]
         self.assertEqual(answers(calls), [1, 1, 1, 2, 1, 0, 1, 0, 1, 0, 1, -4, 1, 0, 1, 0])
 
+    def test_what_stands_behind_the_first_number(self):
+        calls = [
+            2, 2, 0, 0, 0,
+            2, 2, 1, 0, 0,
+            2, 2, 0, 0, 0,
+            7, 5, 1, 3, 0, 2, 8, 0,
+            3, 2, 1, 5, 0,
+            8, 1, 1, 0,
+            9, 1, 1, 0,
+            10, 1, 1, 0,
+            11, 2, 1, 5, 0,
+            11, 2, 3, 5, 0,
+            12, 2, 2, 1, 0,
+            12, 2, 2, 3, 0,
+        ]
+        self.assertEqual(answers(calls), [
+            1, 1, 1, 2, 1, 3, 1, 1, 1, 0,
+            4, 1, 2, 1, 1,
+            7, 2, 2, 3, 4, 3, 1, 4,
+            4, 1, 2, 1, 2,
+            7, 2, 2, 3, 4, 3, 1, 4,
+            4, 1, 3, 1, 1,
+            4, 0, 1, 1, 0,
+            1, -6,
+        ])
+
     def test_each_answer_has_its_count_before_it(self):
-        expected = [number for answer in MIXED_ANSWERS for number in (1, answer)]
+        expected = [number for answer in MIXED_ANSWERS for number in [len(answer), *answer]]
         self.assertEqual(answers(MIXED), expected)
 
     def test_one_call_alone(self):
@@ -47,6 +82,12 @@ class InterfaceTest(unittest.TestCase):
         self.assertEqual(answers(marry(1, 2)), [1, -2])
         self.assertEqual(answers(part(1)), [1, -2])
         self.assertEqual(answers(renounce(1, 2)), [1, -2])
+        self.assertEqual(answers(gift(1, 2)), [1, -2])
+        self.assertEqual(answers(by_law(1)), [1, -2])
+        self.assertEqual(answers(shares(1)), [1, -2])
+        self.assertEqual(answers(kept(1)), [1, -2])
+        self.assertEqual(answers(ends(1)), [1, -2])
+        self.assertEqual(answers(related(1, 2)), [1, -2])
 
     def test_a_hundred_calls(self):
         calls = persons(2) + [marry(1, 2), part(1)] * 49

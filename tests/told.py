@@ -38,6 +38,30 @@ def renounce(who, whose):
     return call(6, who, whose)
 
 
+def gift(whose, whom, instead=0, above=1, below=2):
+    return call(7, whose, whom, instead, above, below)
+
+
+def by_law(who):
+    return call(8, who)
+
+
+def shares(who):
+    return call(9, who)
+
+
+def kept(who):
+    return call(10, who)
+
+
+def ends(who, day=99999):
+    return call(11, who, day)
+
+
+def related(one, other):
+    return call(12, one, other)
+
+
 def persons(count):
     return [person() for number in range(count)]
 
@@ -58,13 +82,32 @@ def split(answered):
     return each
 
 
-def first_numbers(*calls):
-    """What each of the calls answers; these calls all answer one number."""
+def each_answer(*calls):
     answered = split(answers(line(calls)))
     assert len(answered) == len(calls), answered
+    return answered
+
+
+def first_numbers(*calls):
+    """What each of the calls answers; these calls all answer one number."""
+    answered = each_answer(*calls)
     assert all(len(answer) == 1 for answer in answered), answered
     return [answer[0] for answer in answered]
 
 
 def last_number(*calls):
     return first_numbers(*calls)[-1]
+
+
+def last_answer(*calls):
+    return each_answer(*calls)[-1]
+
+
+def rows(answer):
+    """The persons with their shares, as triples."""
+    assert len(answer) == 1 + 3 * answer[0], answer
+    return [tuple(answer[at:at + 3]) for at in range(1, len(answer), 3)]
+
+
+def last_rows(*calls):
+    return rows(last_answer(*calls))
